@@ -1,6 +1,6 @@
 package semi
 
-// The limits of a program.
+// The limits of a program and of its runs.
 const (
 	maxImage  = 800
 	maxTypes  = 6
@@ -10,7 +10,13 @@ const (
 	maxLocals = 8
 	maxCode   = 64
 	maxStack  = 8
+	maxHeap   = 4000
+	maxDepth  = 64
+	maxFuel   = 10000
 )
+
+// Sums, differences and products are taken modulo this.
+const modulus = 65536
 
 // The type of a number; the others are record types, counted from 1.
 const number = 0
@@ -71,10 +77,47 @@ func (s scope) greatestB(op int, a int) int {
 	return len(fieldsOf(s.types, a)) - 1
 }
 
+// entry answers what stands at a place of a list. A program's operands are places of their lists; the test holds for all others.
+func entry(list []int, place int) int {
+	if place < 0 || place >= len(list) {
+		return 0
+	}
+	return list[place]
+}
+
 // fieldsOf answers the fields of a record type, none where there is no such type.
 func fieldsOf(types [][]int, t int) []int {
 	if t < 1 || t > len(types) {
 		return nil
 	}
 	return types[t-1]
+}
+
+// funcAt answers a function, one without code where there is none.
+func funcAt(funcs []Func, f int) Func {
+	if f < 0 || f >= len(funcs) {
+		return Func{}
+	}
+	return funcs[f]
+}
+
+// insAt answers an instruction of a function.
+func insAt(f Func, i int) Ins {
+	if i < 0 || i >= len(f.Code) {
+		return Ins{}
+	}
+	return f.Code[i]
+}
+
+// argsOf answers the types of a function's arguments.
+func argsOf(f Func) []int {
+	return front(f.Locals, f.Args)
+}
+
+// front answers the first so many of a list.
+func front(list []int, count int) []int {
+	if count < 0 || count > len(list) {
+		return nil
+	}
+	return list[:count]
 }

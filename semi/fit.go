@@ -11,6 +11,7 @@ func openFitting(image string) opened {
 		if t.wrong {
 			return opened{err: ErrType, at: k}
 		}
+		o.spots = append(o.spots, t.spots)
 	}
 	return o
 }
@@ -99,18 +100,19 @@ func stackAhead(p Prog, f Func, n Ins) []int {
 	case opZero, opPrint:
 		return []int{number}
 	case opStore:
-		return []int{typeAt(f.Locals, n.A)}
+		return []int{entry(f.Locals, n.A)}
 	case opNew:
 		return fieldsOf(p.Types, n.A)
 	case opGet, opIs:
 		return []int{n.A}
 	case opSet:
 		fields := fieldsOf(p.Types, n.A)
-		return []int{n.A, typeAt(fields, n.B)}
+		return []int{n.A, entry(fields, n.B)}
 	case opSame:
 		return []int{n.A, n.A}
 	case opCall:
-		return argsOf(p.Funcs, n.A)
+		called := funcAt(p.Funcs, n.A)
+		return argsOf(called)
 	case opRet:
 		return []int{f.Result}
 	}
@@ -123,42 +125,28 @@ func stackBehind(p Prog, f Func, n Ins) []int {
 	case opPush, opAdd, opSub, opMul, opLess, opIs, opSame, opRead:
 		return []int{number}
 	case opLoad:
-		return []int{typeAt(f.Locals, n.A)}
+		return []int{entry(f.Locals, n.A)}
 	case opNew, opNull:
 		return []int{n.A}
 	case opGet:
 		fields := fieldsOf(p.Types, n.A)
-		return []int{typeAt(fields, n.B)}
+		return []int{entry(fields, n.B)}
 	case opCall:
-		return []int{resultOf(p.Funcs, n.A)}
+		called := funcAt(p.Funcs, n.A)
+		return []int{called.Result}
 	}
 	return nil
 }
 
-// typeAt answers the type at a place of a list. A program's operands are places of their lists; the test holds for all others.
-func typeAt(list []int, place int) int {
-	if place < 0 || place >= len(list) {
-		return number
+// spotAt answers what is known of instruction i of function f.
+func spotAt(spots [][]spot, f int, i int) spot {
+	if f < 0 || f >= len(spots) {
+		return spot{}
 	}
-	return list[place]
-}
-
-func argsOf(funcs []Func, f int) []int {
-	if f < 0 || f >= len(funcs) {
-		return nil
+	if i < 0 || i >= len(spots[f]) {
+		return spot{}
 	}
-	count := funcs[f].Args
-	if count < 0 || count > len(funcs[f].Locals) {
-		return nil
-	}
-	return funcs[f].Locals[:count]
-}
-
-func resultOf(funcs []Func, f int) int {
-	if f < 0 || f >= len(funcs) {
-		return number
-	}
-	return funcs[f].Result
+	return spots[f][i]
 }
 
 func sameList(a []int, b []int) bool {

@@ -2,9 +2,10 @@ package semi
 
 // opened is what an image was read as: a program, or the error and its place.
 type opened struct {
-	prog Prog
-	err  Errno
-	at   int
+	prog  Prog
+	spots [][]spot // of each function, if they were asked to fit
+	err   Errno
+	at    int
 }
 
 // open reads an image; the functions need not fit.

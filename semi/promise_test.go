@@ -97,14 +97,7 @@ func untouched(p semi.Prog) bool {
 	for _, f := range p.Funcs {
 		lists = append(lists, f.Locals)
 	}
-	for _, l := range lists {
-		for _, n := range l[len(l) : len(l)+9] {
-			if n != -77 {
-				return false
-			}
-		}
-	}
-	return true
+	return untouchedLists(lists...)
 }
 
 // spoil changes every number of a program, and the room behind its lists.

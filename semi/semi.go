@@ -81,21 +81,48 @@ func Stack(image string, f int, i int) ([]int, Errno) {
 	if i < 0 || i >= len(o.prog.Funcs[f].Code) {
 		return nil, ErrRange
 	}
-	t := fit(o.prog, o.prog.Funcs[f])
-	if !t.spots[i].reached {
+	p := spotAt(o.spots, f, i)
+	if !p.reached {
 		return nil, ErrNone
 	}
-	return joined(t.spots[i].stack, nil), OK
+	return joined(p.stack, nil), OK
 }
 
-// Start begins a run (P7). Runs are not built yet: it answers zero values.
-func Start(image string, heap int, depth int) ([]int, Errno, int) { return nil, OK, 0 }
+// Start begins a run (P7).
+func Start(image string, heap int, depth int) ([]int, Errno, int) {
+	o := openFitting(image)
+	if o.err != OK {
+		return nil, o.err, o.at
+	}
+	if heap < 0 || heap > maxHeap || depth < 1 || depth > maxDepth {
+		return nil, ErrRange, 0
+	}
+	r := begin(o, image)
+	r.heap = heap
+	r.depth = depth
+	return layDown(r), OK, 0
+}
 
-// Go goes on with a run (P8, P9). Runs are not built yet: it answers zero values.
-func Go(image string, state []int, in []int, fuel int) (Round, Errno) { return Round{}, OK }
+// Go goes on with a run (P8, P9).
+func Go(image string, state []int, in []int, fuel int) (Round, Errno) {
+	o := openFitting(image)
+	if o.err != OK {
+		return Round{}, o.err
+	}
+	r, sound := takeUp(o, image, state)
+	if !sound {
+		return Round{}, ErrState
+	}
+	if fuel < 0 || fuel > maxFuel {
+		return Round{}, ErrRange
+	}
+	r.in = in
+	status := r.goOn(fuel)
+	return Round{State: layDown(r), Out: r.out, Used: r.used, Status: status}, OK
+}
 
-// Pack clears away what cannot be reached (P11). Runs are not built yet: it answers zero values.
+// Pack clears away what cannot be reached (P11). Not built yet: it answers zero values.
 func Pack(image string, state []int) ([]int, Errno) { return nil, OK }
 
-// Live tells the live words (P11). Runs are not built yet: it answers zero values.
+// Live tells the live words (P11). Not built yet: it answers zero values.
 func Live(image string, state []int) (int, Errno) { return 0, OK }
