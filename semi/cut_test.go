@@ -90,37 +90,57 @@ func TestWildAgainstModel(t *testing.T) {
 	t.Logf("%+v", sum)
 }
 
-// runInEqualPieces is what a run comes to that gets its numbers and its fuel in pieces of this size.
-func runInEqualPieces(t *testing.T, image string, heap, depth int, in []int, fuel, piece int) semi.Round {
+// cut is a way to cut a run: how much fuel and how many numbers each call of Go gets, and whether Pack is called ahead of it.
+type cut struct {
+	fuel, in int
+	pack     bool
+}
+
+// runInEqualPieces is what a run comes to that is cut in this way. A run that waits though there is a number for it, or spends its fuel, goes on.
+func runInEqualPieces(t *testing.T, image string, heap, depth int, in []int, c cut) semi.Round {
 	t.Helper()
 	all := semi.Round{State: start(t, image, heap, depth)}
-	for fuel > 0 {
-		r, e := semi.Go(image, all.State, in[all.Used:], min(piece, fuel))
+	for left := 400; left > 0; left-- {
+		if c.pack {
+			all.State = packed(t, image, all.State)
+		}
+		given := in[all.Used:min(len(in), all.Used+c.in)]
+		r, e := semi.Go(image, all.State, given, c.fuel)
 		if e != semi.OK {
 			t.Fatalf("Go(%q, ..) = %d", image, e)
 		}
-		fuel -= piece
 		all = semi.Round{State: r.State, Out: append(all.Out, r.Out...), Used: all.Used + r.Used, Status: r.Status}
-		if r.Status != 0 {
+		if r.Status != 0 && (r.Status != 2 || all.Used == len(in)) {
 			return all
 		}
 	}
 	return all
 }
 
-// P8: a run comes to the same however it is cut.
+// P12: a run comes to the same however it is cut, and whether it is packed or not.
 func TestCuts(t *testing.T) {
 	g := rand.New(rand.NewSource(8))
-	for range 300 {
+	var ends [6]int
+	for range 400 {
 		p := busyProg(g)
 		image := imageOf(p)
-		heap, depth, in := g.Intn(40), 1+g.Intn(5), randomIn(g, 40)
-		want := runInEqualPieces(t, image, heap, depth, in, 400, 400)
-		for _, piece := range []int{1, 2, 7, 50} {
-			r := runInEqualPieces(t, image, heap, depth, in, 400, piece)
+		heap, depth, in := g.Intn(40), 1+g.Intn(5), randomIn(g, g.Intn(20))
+		want := newModel(p, heap, depth).goOn(in, 400)
+		if want.Status == 0 {
+			continue
+		}
+		ends[want.Status]++
+		for _, c := range []cut{{400, 20, false}, {1, 20, false}, {1, 1, true}, {2, 3, true}, {7, 1, false}, {50, 20, true}, {400, 1, true}, {400, 1, false}} {
+			r := runInEqualPieces(t, image, heap, depth, in, c)
 			if r.Status != want.Status || r.Used != want.Used || !equalLists(r.Out, want.Out) {
-				t.Fatalf("%q in pieces of %d: %+v, want %+v", image, piece, r, want)
+				t.Fatalf("P12: %q cut as %+v: %+v, want %+v", image, c, r, want)
 			}
 		}
 	}
+	for _, status := range []int{1, 2, 3, 4, 5} {
+		if ends[status] < 5 {
+			t.Errorf("only %d runs came to status %d", ends[status], status)
+		}
+	}
+	t.Log(ends)
 }

@@ -127,6 +127,7 @@ func wantError(t *testing.T, image string, want semi.Errno, at int) {
 	if l, e := semi.Stack(image, -1, 99); e != want || l != nil {
 		t.Errorf("Stack(%.80q, -1, 99) = %v, %d, want nil, %d", image, l, e, want)
 	}
+	wantNoRun(t, image, want, at)
 	p, e, n := semi.Decode(image)
 	if want == semi.ErrType {
 		if e != semi.OK || n != 0 || imageOf(p) != image {
@@ -136,6 +137,27 @@ func wantError(t *testing.T, image string, want semi.Errno, at int) {
 	}
 	if e != want || n != at || !reflect.DeepEqual(p, semi.Prog{}) {
 		t.Errorf("Decode(%.80q) = %v, %d, %d, want none, %d, %d", image, p, e, n, want, at)
+	}
+}
+
+// wantNoRun holds the calls about runs to an image's error, whatever else is wrong.
+func wantNoRun(t *testing.T, image string, want semi.Errno, at int) {
+	t.Helper()
+	for _, n := range []int{0, -1} {
+		if l, e, place := semi.Start(image, n, 1); e != want || place != at || l != nil {
+			t.Errorf("Start(%.80q, %d, 1) = %v, %d, %d, want nil, %d, %d", image, n, l, e, place, want, at)
+		}
+		if r, e := semi.Go(image, nil, nil, n); e != want || !reflect.DeepEqual(r, semi.Round{}) {
+			t.Errorf("Go(%.80q, nil, nil, %d) = %v, %d, want none, %d", image, n, r, e, want)
+		}
+	}
+	for _, list := range [][]int{nil, {0}, make([]int, 99)} {
+		if l, e := semi.Pack(image, list); e != want || l != nil {
+			t.Errorf("Pack(%.80q, %v) = %v, %d, want nil, %d", image, list, l, e, want)
+		}
+		if n, e := semi.Live(image, list); e != want || n != 0 {
+			t.Errorf("Live(%.80q, %v) = %d, %d, want 0, %d", image, list, n, e, want)
+		}
 	}
 }
 

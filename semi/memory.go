@@ -20,7 +20,7 @@ type moving struct {
 	refs  []int // for each place of from, the new reference to the record there; nothing, while it has none
 }
 
-// clearAway clears away what cannot be reached, and lets every reference name its record's new place.
+// clearAway clears away what cannot be reached, and lets every reference name its record's new place. Then the memory has just the live words.
 func (r *run) clearAway() {
 	m := moving{types: r.prog.Types, from: r.words, to: make([]int, 0, len(r.words)), refs: make([]int, len(r.words))}
 	for k, f := range r.below {

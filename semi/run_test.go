@@ -358,10 +358,9 @@ func TestRoomForNew(t *testing.T) {
 	}
 }
 
-// P8: the greatest memory and the most frames, all of them in use.
-func TestGreatestRun(t *testing.T) {
-	// Function 0 takes in how many records of a chain each frame makes, and calls itself, until 0 is taken in.
-	p := semi.Prog{Types: [][]int{{1, 0, 0, 0, 0}}, Funcs: []semi.Func{{Locals: []int{1, 0, 0, 0, 0, 0, 0, 0}, Code: []semi.Ins{
+// greatProg's function 0 takes in how many records of a chain each frame makes, and calls itself, until 0 is taken in.
+func greatProg() semi.Prog {
+	return semi.Prog{Types: [][]int{{1, 0, 0, 0, 0}}, Funcs: []semi.Func{{Locals: []int{1, 0, 0, 0, 0, 0, 0, 0}, Code: []semi.Ins{
 		op(read), op(store, 1), op(load, 1), op(zero, 16),
 		op(load, 0), op(push, 9), op(push, 8), op(push, 7), op(push, 6), op(newRec, 1), op(store, 0),
 		op(load, 1), op(push, 1), op(sub), op(store, 1), op(jump, 2),
@@ -369,16 +368,26 @@ func TestGreatestRun(t *testing.T) {
 		op(push, 50), op(ret),
 		op(push, 7), op(call), op(put), op(put), op(put), op(put), op(put), op(put), op(put), op(put), op(push, 3), op(ret),
 	}}}}
+}
+
+// greatIn lets greatProg have 64 frames that hold 60 words each.
+func greatIn() []int {
+	var in []int
+	for range 63 {
+		in = append(in, 10, 1)
+	}
+	return append(in, 10, 0)
+}
+
+// P8: the greatest memory and the most frames, all of them in use.
+func TestGreatestRun(t *testing.T) {
+	p := greatProg()
 	image := imageOf(p)
 	wantFit(t, image)
 	for _, heap := range []int{4000, 3990, 3840, 3839} {
 		m := newModel(p, heap, 64)
 		state := start(t, image, heap, 64)
-		var in []int
-		for range 63 {
-			in = append(in, 10, 1)
-		}
-		in = append(in, 10, 0)
+		in := greatIn()
 		for range 20 {
 			want := m.goOn(in, 999)
 			state = wantRound(t, image, state, in, 999, want)

@@ -105,13 +105,9 @@ func Start(image string, heap int, depth int) ([]int, Errno, int) {
 
 // Go goes on with a run (P8, P9).
 func Go(image string, state []int, in []int, fuel int) (Round, Errno) {
-	o := openFitting(image)
-	if o.err != OK {
-		return Round{}, o.err
-	}
-	r, sound := takeUp(o, image, state)
-	if !sound {
-		return Round{}, ErrState
+	r, e := takeUp(image, state)
+	if e != OK {
+		return Round{}, e
 	}
 	if fuel < 0 || fuel > maxFuel {
 		return Round{}, ErrRange
@@ -121,8 +117,22 @@ func Go(image string, state []int, in []int, fuel int) (Round, Errno) {
 	return Round{State: layDown(r), Out: r.out, Used: r.used, Status: status}, OK
 }
 
-// Pack clears away what cannot be reached (P11). Not built yet: it answers zero values.
-func Pack(image string, state []int) ([]int, Errno) { return nil, OK }
+// Pack clears away what cannot be reached (P11).
+func Pack(image string, state []int) ([]int, Errno) {
+	r, e := takeUp(image, state)
+	if e != OK {
+		return nil, e
+	}
+	r.clearAway()
+	return layDown(r), OK
+}
 
-// Live tells the live words (P11). Not built yet: it answers zero values.
-func Live(image string, state []int) (int, Errno) { return 0, OK }
+// Live tells the live words (P11).
+func Live(image string, state []int) (int, Errno) {
+	r, e := takeUp(image, state)
+	if e != OK {
+		return 0, e
+	}
+	r.clearAway()
+	return len(r.words), OK
+}

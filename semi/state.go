@@ -53,8 +53,12 @@ type taking struct {
 	records []int // for each word of the memory, the type of the record that begins there; 0, where none does
 }
 
-// takeUp reads a state. It answers false if the list can be none of this image's. What it takes has a value of the right type everywhere, so the run can go on as one from Start.
-func takeUp(o opened, image string, state []int) (run, bool) {
+// takeUp reads a state of an image; it has the errors that Go, Pack and Live share. What it takes has a value of the right type everywhere, so the run can go on as one from Start. One that has ended has no memory.
+func takeUp(image string, state []int) (run, Errno) {
+	o := openFitting(image)
+	if o.err != OK {
+		return run{}, o.err
+	}
 	t := taking{from: reader{numbers: state}, run: run{image: image, prog: o.prog, spots: o.spots}}
 	t.takeHead()
 	if t.run.status == statusRunning {
@@ -62,9 +66,9 @@ func takeUp(o opened, image string, state []int) (run, bool) {
 		t.takeFrames()
 	}
 	if t.from.stopped || t.from.at < len(state) {
-		return run{}, false
+		return run{}, ErrState
 	}
-	return t.run, true
+	return t.run, OK
 }
 
 func (t *taking) takeHead() {

@@ -33,9 +33,15 @@ func refused(t *testing.T, image string, list []int) {
 			t.Fatalf("P8: Go(%q, %v, .., %d) = %+v, %d", image, list, fuel, r, e)
 		}
 	}
+	if l, e := semi.Pack(image, list); e != semi.ErrState || l != nil {
+		t.Fatalf("P11: Pack(%q, %v) = %v, %d", image, list, l, e)
+	}
+	if n, e := semi.Live(image, list); e != semi.ErrState || n != 0 {
+		t.Fatalf("P11: Live(%q, %v) = %d, %d", image, list, n, e)
+	}
 }
 
-// P8: lists that have no state's form are refused.
+// P8, P11: lists that have no state's form are refused.
 func TestNoState(t *testing.T) {
 	g := rand.New(rand.NewSource(9))
 	for range 60 {
@@ -58,7 +64,7 @@ func TestNoState(t *testing.T) {
 	}
 }
 
-// P8: a run that has ended has a state, too, and no list that is longer or shorter is one.
+// P8, P11: a run that has ended has a state, too, and no list that is longer or shorter is one.
 func TestNoEndedState(t *testing.T) {
 	image := imageOf(only(op(push, 1), op(ret)))
 	r, e := semi.Go(image, start(t, image, 4000, 64), nil, 2)
@@ -78,7 +84,7 @@ func TestNoEndedState(t *testing.T) {
 	refused(t, image, join(r.State, []int{0}))
 }
 
-// P8: a state of one image is none of another's, be they ever so like.
+// P8, P11: a state of one image is none of another's, be they ever so like.
 func TestOtherImages(t *testing.T) {
 	base := only(op(push, 1), op(put), op(push, 2), op(ret))
 	state := start(t, imageOf(base), 10, 2)
@@ -109,7 +115,7 @@ func TestOtherImages(t *testing.T) {
 func TestBrokenStates(t *testing.T) {
 	g := rand.New(rand.NewSource(11))
 	taken := 0
-	for range 150 {
+	for range 50 {
 		image, state, _, _ := midway(t, g)
 		for k := range state {
 			v := state[k]
@@ -130,8 +136,7 @@ func TestBrokenStates(t *testing.T) {
 
 func goOnBroken(t *testing.T, image string, list []int) int {
 	t.Helper()
-	semi.Pack(image, list)
-	semi.Live(image, list)
+	packBroken(t, image, list)
 	count := 0
 	for range 3 {
 		r, e := semi.Go(image, list, []int{1, 0, 2}, 60)
@@ -146,6 +151,23 @@ func goOnBroken(t *testing.T, image string, list []int) int {
 		count++
 	}
 	return count
+}
+
+// packBroken holds Pack and Live to take just what Go takes, and what Pack answers to be taken again.
+func packBroken(t *testing.T, image string, list []int) {
+	t.Helper()
+	_, want := semi.Go(image, list, nil, 0)
+	l, e := semi.Pack(image, list)
+	n, f := semi.Live(image, list)
+	if e != want || f != want || (e != semi.OK && (l != nil || n != 0)) {
+		t.Fatalf("Pack(%q, %v) = %v, %d, Live %d, %d, want %d", image, list, l, e, n, f, want)
+	}
+	if e == semi.OK {
+		wantState(t, l, 4000, 64)
+		if again, e := semi.Live(image, l); again != n || e != semi.OK {
+			t.Fatalf("Live(%q, %v) = %d, %d, want %d", image, l, again, e, n)
+		}
+	}
 }
 
 // P2: Go changes neither the state nor the numbers that it is given, nor what lies behind them; and answers the same again.
